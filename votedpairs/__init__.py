@@ -1,0 +1,1 @@
+"""Stable and popular matchings of persons and hosts."""
