@@ -17,6 +17,12 @@ PERSON_PROPOSING = [5]
 HOST_PROPOSING = [6]
 IS_STABLE = [7]
 BLOCKING_PAIRS = [8]
+IS_POPULAR = [10]
+COUNT_MATCHINGS = [11]
+STABLE_MATCHINGS = [12]
+USE_LARGEST_POPULAR = [14]
+SWAP_SIDES = [15]
+DESCRIBE = [16]
 
 
 def create(n, m):
@@ -33,6 +39,14 @@ def set_host_preferences(h, persons):
 
 def set_matching(a):
     return [3, len(a)] + list(a)
+
+
+def compare(a):
+    return [9, len(a)] + list(a)
+
+
+def popular_matching(k):
+    return [13, k]
 
 
 def split_answers(told):
@@ -115,6 +129,30 @@ def many_markets():
             yield from spread_markets(n, m, 120, min(n, m))
 
 
+def full_market(n, m):
+    """The market in which everybody lists all of the other side, in ascending order."""
+    return [list(range(m))] * n, [list(range(n))] * m
+
+
+def turned_market(n, m):
+    """A market of full lists in which persons begin with different hosts, who like them least if n is m."""
+    return ([[(i + place) % m for place in range(m)] for i in range(n)],
+            [[(h + 1 + place) % n for place in range(n)] for h in range(m)])
+
+
+def once_for_each_market(tell):
+    """Remember what is told of a market, as trying all takes long; tests don't change what they are told."""
+    known = {}
+
+    def remembered(persons, hosts):
+        market = repr((persons, hosts))
+        if market not in known:
+            known[market] = tell(persons, hosts)
+        return known[market]
+
+    return remembered
+
+
 def acceptable(persons, hosts, i, h):
     return h in persons[i] and i in hosts[h]
 
@@ -126,6 +164,7 @@ def is_a_matching(persons, hosts, a):
                     for i, h in enumerate(a) if h != -1))
 
 
+@once_for_each_market
 def all_matchings(persons, hosts):
     """Every matching, in the order of matchings."""
     choices = list(range(len(hosts))) + [-1]
@@ -146,9 +185,47 @@ def blocking(persons, hosts, a):
             and rank(hosts[h], i) < rank(hosts[h], have.get(h, -1))]
 
 
+@once_for_each_market
 def stable(persons, hosts):
-    """Every stable matching."""
+    """Every stable matching, in the order of matchings."""
     return [a for a in all_matchings(persons, hosts) if not blocking(persons, hosts, a)]
+
+
+def places(persons, hosts, a):
+    """The place of the partner in the preference list, for each person and then for each host."""
+    have = {h: i for i, h in enumerate(a)}
+    return ([rank(row, a[i]) for i, row in enumerate(persons)]
+            + [rank(row, have.get(h, -1)) for h, row in enumerate(hosts)])
+
+
+def votes_of_places(one, other):
+    return sum(here < there for here, there in zip(one, other))
+
+
+def votes(persons, hosts, a, b):
+    """How many persons and hosts prefer the matching a to b."""
+    return votes_of_places(places(persons, hosts, a), places(persons, hosts, b))
+
+
+@once_for_each_market
+def popular(persons, hosts):
+    """Every popular matching, in the order of matchings."""
+    every = all_matchings(persons, hosts)
+    standing = [places(persons, hosts, a) for a in every]
+    return [a for a, own in zip(every, standing)
+            if all(votes_of_places(other, own) <= votes_of_places(own, other) for other in standing)]
+
+
+def largest_popular(persons, hosts):
+    """The first popular matching with the greatest number of pairs."""
+    found = popular(persons, hosts)
+    most = max(pairs_of(a) for a in found)
+    return [a for a in found if pairs_of(a) == most][0]
+
+
+def sides_exchanged(a, size):
+    """The partners of the hosts, who are so many."""
+    return [a.index(h) if h in a else -1 for h in range(size)]
 
 
 def pairs_of(a):
@@ -160,16 +237,29 @@ def told_matching(a):
     return [pairs_of(a)] + list(a)
 
 
+def told_listing(found):
+    """What a call answers that tells how many matchings there are, and these."""
+    return [len(found)] + [h for a in found for h in a]
+
+
+def told_market(persons, hosts):
+    """What describe answers."""
+    told = [len(persons), len(hosts)]
+    for row in list(persons) + list(hosts):
+        told += [len(row)] + list(row)
+    return told
+
+
 def views(persons, hosts):
     """Lists of calls, each behind calls that made this market, which together show all that an instance holds.
 
-    The lists are shown by every matching's blocking pairs: as they are, and with everybody on one side willing
-    to take everybody, so that names that stand in one list of the two only are seen as well.
+    The lists are shown by describe, and by every matching's blocking pairs: as they are, and with everybody on one
+    side willing to take everybody, so that names that stand in one list of the two only are seen as well.
     """
     n, m = len(persons), len(hosts)
     willing_persons = [set_person_preferences(i, range(m)) for i in range(n)]
     willing_hosts = [set_host_preferences(h, range(n)) for h in range(m)]
-    found = [[MATCHING, IS_STABLE, BLOCKING_PAIRS, PERSON_PROPOSING, HOST_PROPOSING]]
+    found = [[DESCRIBE, MATCHING, IS_STABLE, BLOCKING_PAIRS, IS_POPULAR, PERSON_PROPOSING, HOST_PROPOSING]]
     some = list(product(list(range(m)) + [-1], repeat=n))
     for start in range(0, len(some), 20):
         tries = []

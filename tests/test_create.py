@@ -3,9 +3,11 @@
 import unittest
 from itertools import product
 
-from tests.support import (BLOCKING_PAIRS, HIGHEST, HOST_PROPOSING, IS_STABLE, LOWEST, MATCHING, NOT_THERE,
-                           NO_INSTANCE, OUT_OF_RANGE, PERSON_PROPOSING, ask, build, create,
-                           set_host_preferences, set_matching, set_person_preferences, views)
+from tests.support import (BLOCKING_PAIRS, COUNT_MATCHINGS, DESCRIBE, HIGHEST, HOST_PROPOSING, IS_POPULAR, IS_STABLE,
+                           LOWEST, MATCHING, NOT_THERE, NO_INSTANCE, OUT_OF_RANGE, PERSON_PROPOSING,
+                           STABLE_MATCHINGS, SWAP_SIDES, USE_LARGEST_POPULAR, ask, build, compare, create,
+                           popular_matching, set_host_preferences, set_matching, set_person_preferences,
+                           told_market, views)
 
 REFUSED_SIZES = (LOWEST, -5, -1, 0, 5, 6, 70, HIGHEST)
 EVERY_OTHER_CALL = [
@@ -23,6 +25,19 @@ EVERY_OTHER_CALL = [
     HOST_PROPOSING,
     IS_STABLE,
     BLOCKING_PAIRS,
+    compare([]),
+    compare([-1]),
+    compare([7] * 70),
+    IS_POPULAR,
+    COUNT_MATCHINGS,
+    STABLE_MATCHINGS,
+    popular_matching(0),
+    popular_matching(-1),
+    popular_matching(LOWEST),
+    popular_matching(HIGHEST),
+    USE_LARGEST_POPULAR,
+    SWAP_SIDES,
+    DESCRIBE,
 ]
 
 
@@ -40,6 +55,12 @@ class Create(unittest.TestCase):
                      set_person_preferences(0, [m]), set_host_preferences(0, [n])]
             told = [[0], [m], NOT_THERE, [n], NOT_THERE, OUT_OF_RANGE, OUT_OF_RANGE]
             self.assertEqual(ask(calls), told, (n, m))
+
+    def test_every_size_is_described(self):
+        for n, m in product(range(1, 5), repeat=2):
+            told = ask([create(n, m), DESCRIBE])
+            self.assertEqual(told, [[0], [n, m] + [0] * (n + m)], (n, m))
+            self.assertEqual(told[1], told_market([[]] * n, [[]] * m))
 
     def test_all_lists_are_empty_at_first(self):
         calls = [create(2, 2), set_person_preferences(0, [0, 1]), set_person_preferences(1, [0, 1]),
@@ -86,9 +107,15 @@ class BeforeCreate(unittest.TestCase):
     def test_one_behind_another(self):
         self.assertEqual(ask(EVERY_OTHER_CALL), [NO_INSTANCE] * len(EVERY_OTHER_CALL))
 
+    def test_each_call_behind_a_create_that_was_refused(self):
+        for call in EVERY_OTHER_CALL:
+            for refused in (create(0, 1), create(1, 5), create(LOWEST, HIGHEST)):
+                self.assertEqual(ask([refused, call]), [OUT_OF_RANGE, NO_INSTANCE], call)
+                self.assertEqual(ask([call, refused, call]), [NO_INSTANCE, OUT_OF_RANGE, NO_INSTANCE], call)
+
     def test_they_leave_nothing_behind(self):
-        calls = EVERY_OTHER_CALL + [create(1, 1), MATCHING, PERSON_PROPOSING]
-        self.assertEqual(ask(calls)[-3:], [[0], [0, -1], [0, -1]])
+        calls = EVERY_OTHER_CALL + [create(1, 1), DESCRIBE, MATCHING, PERSON_PROPOSING]
+        self.assertEqual(ask(calls)[-4:], [[0], [1, 1, 0, 0], [0, -1], [0, -1]])
 
 
 if __name__ == "__main__":

@@ -3,7 +3,7 @@
 import unittest
 
 from tests.support import (BLOCKING_PAIRS, HOST_PROPOSING, IS_STABLE, MATCHING, PERSON_PROPOSING, ask_of, markets,
-                           many_markets, rank, set_matching, spread_markets, stable, told_matching)
+                           many_markets, rank, set_matching, sides_exchanged, spread_markets, stable, told_matching)
 
 
 def best_for_persons(persons, found):
@@ -14,10 +14,6 @@ def best_for_persons(persons, found):
 def worst_for_persons(persons, found):
     """For each person the worst host in any of these matchings."""
     return [max([a[i] for a in found], key=lambda h: rank(row, h)) for i, row in enumerate(persons)]
-
-
-def sides_exchanged(a, size):
-    return [a.index(h) if h in a else -1 for h in range(size)]
 
 
 class Proposing(unittest.TestCase):

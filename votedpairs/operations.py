@@ -3,9 +3,11 @@
 A refusal is the list of its error code alone.
 """
 
-from votedpairs.pairing import NOBODY, count_pairs, find_blocking_pairs, is_matching, is_preference_list
+from votedpairs.listing import list_matchings, list_popular, list_stable, list_standings
+from votedpairs.pairing import NOBODY, count_pairs, exchanged, find_blocking_pairs, is_matching, is_preference_list
 from votedpairs.proposing import propose_by_hosts, propose_by_persons
 from votedpairs.state import Market
+from votedpairs.voting import find_standing, is_unbeaten, votes
 
 NO_INSTANCE = -11
 NOT_THERE = -2
@@ -89,9 +91,88 @@ def blocking_pairs(market):
     return told
 
 
+def compare(market, a):
+    """Tell how many prefer the current matching to a, and how many a to the current one."""
+    if not is_matching(market.person_lists, market.host_lists, a):
+        return [OUT_OF_RANGE]
+    current = find_standing(market.person_lists, market.host_lists, market.partners)
+    other = find_standing(market.person_lists, market.host_lists, a)
+    return [votes(current, other), votes(other, current)]
+
+
+def is_popular(market):
+    """Tell 1 if the current matching is popular, otherwise 0."""
+    current = find_standing(market.person_lists, market.host_lists, market.partners)
+    rivals = list_standings(market.person_lists, market.host_lists)
+    return [1 if is_unbeaten(current, rivals) else 0]
+
+
+def count_matchings(market):
+    """Tell how many matchings, popular matchings and stable matchings there are."""
+    every = list_matchings(market.person_lists, market.host_lists)
+    popular = list_popular(market.person_lists, market.host_lists)
+    stable = list_stable(market.person_lists, market.host_lists)
+    return [len(every), len(popular), len(stable)]
+
+
+def stable_matchings(market):
+    """Tell how many stable matchings there are, and these."""
+    found = list_stable(market.person_lists, market.host_lists)
+    told = [len(found)]
+    for partners in found:
+        told.extend(partners)
+    return told
+
+
+def popular_matching(market, k):
+    """Tell the number of pairs of popular matching k, and this matching."""
+    found = list_popular(market.person_lists, market.host_lists)
+    if not 0 <= k < len(found):
+        return [NOT_THERE]
+    return [count_pairs(found[k])] + found[k]
+
+
+def use_largest_popular(market):
+    """Replace the current matching by the first of the popular ones with the most pairs."""
+    # Of several that are equal, max takes the first.
+    market.partners = max(list_popular(market.person_lists, market.host_lists), key=count_pairs)
+    return matching(market)
+
+
+def swap_sides(market):
+    """Make the persons hosts and the hosts persons."""
+    persons_before = market.person_lists
+    market.partners = exchanged(market.partners, len(market.host_lists))
+    market.person_lists = market.host_lists
+    market.host_lists = persons_before
+    return [len(market.person_lists)]
+
+
+def describe(market):
+    """Tell the numbers of persons and hosts, and each preference list behind its length."""
+    told = [len(market.person_lists), len(market.host_lists)]
+    for choices in market.person_lists + market.host_lists:
+        told.append(len(choices))
+        told.extend(choices)
+    return told
+
+
 WITH_NUMBER_AND_ROW = {1: set_person_preferences, 2: set_host_preferences}
-WITH_ROW = {3: set_matching}
-PLAIN = {4: matching, 5: person_proposing, 6: host_proposing, 7: is_stable, 8: blocking_pairs}
+WITH_ROW = {3: set_matching, 9: compare}
+WITH_NUMBER = {13: popular_matching}
+PLAIN = {
+    4: matching,
+    5: person_proposing,
+    6: host_proposing,
+    7: is_stable,
+    8: blocking_pairs,
+    10: is_popular,
+    11: count_matchings,
+    12: stable_matchings,
+    14: use_largest_popular,
+    15: swap_sides,
+    16: describe,
+}
 
 
 def carry_out(session, number, numbers, row):
@@ -104,4 +185,6 @@ def carry_out(session, number, numbers, row):
         return WITH_NUMBER_AND_ROW[number](session.market, numbers[0], row)
     if number in WITH_ROW:
         return WITH_ROW[number](session.market, row)
+    if number in WITH_NUMBER:
+        return WITH_NUMBER[number](session.market, numbers[0])
     return PLAIN[number](session.market)

@@ -34,6 +34,12 @@ def count_pairs(partners):
     return len(partners) - partners.count(NOBODY)
 
 
+def are_acceptable(person_lists, host_lists, person, host):
+    """Tell whether each of the two is in the preference list of the other."""
+    # Preference lists hold real hosts alone, so the second list is there whenever it is asked for.
+    return host in person_lists[person] and person in host_lists[host]
+
+
 def is_matching(person_lists, host_lists, partners):
     """Tell whether partners is a matching of this market."""
     if len(partners) != len(person_lists):
@@ -41,10 +47,7 @@ def is_matching(person_lists, host_lists, partners):
     for person, host in enumerate(partners):
         if host == NOBODY:
             continue
-        # Preference lists hold real hosts alone, so this refuses every other number, too.
-        if host not in person_lists[person] or person not in host_lists[host]:
-            return False
-        if partners.count(host) > 1:
+        if partners.count(host) > 1 or not are_acceptable(person_lists, host_lists, person, host):
             return False
     return True
 

@@ -11,6 +11,14 @@ SHAPES = {
     6: (0, False),
     7: (0, False),
     8: (0, False),
+    9: (0, True),
+    10: (0, False),
+    11: (0, False),
+    12: (0, False),
+    13: (1, False),
+    14: (0, False),
+    15: (0, False),
+    16: (0, False),
 }
 
 
